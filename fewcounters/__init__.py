@@ -1,0 +1,1 @@
+"""Fewcounters: how often each row was gone through, told by the fewest counters."""
