@@ -9,6 +9,11 @@ def counts(web, heap):
     need_web(web)
     if not is_heap_of(web, heap):
         raise NoRun("no heap of runs")
+    return tally_of(web, heap)
+
+
+def tally_of(web, heap):
+    """As counts, for a heap that was looked at already."""
     rows = web[1]
     tally = [0] * count_of_counts(web)
     for run in heap:
@@ -74,7 +79,7 @@ def are_counts(web, numbers):
         return False
     if not are_whole(numbers) or min(numbers) < 0 or not are_even(web, numbers):
         return False
-    return all([hangs_together(web, numbers, part) for part in range(len(web[0]))])
+    return rows_apart(web, numbers) == []
 
 
 def are_even(web, numbers):
@@ -85,15 +90,15 @@ def relation_sum(relation, numbers):
     return sum([factor * number for factor, number in zip(relation, numbers)])
 
 
-def hangs_together(web, numbers, part):
-    """Whether the part begins and its rows with a number above 0 are come to by such rows, if it has some."""
-    gone = [row for row, number in zip(web[1], numbers) if row[0] == part and number > 0]
-    if not gone:
-        return True
-    if numbers[len(web[1]) + part] == 0:
-        return False
-    found = reached([(row[1], row[2]) for row in gone], BEGIN)
-    return all([row[1] in found for row in gone])
+def rows_apart(web, numbers):
+    """The rows with a number above 0 that can't be come to by such rows of their part, or whose part has none."""
+    apart = []
+    for part in range(len(web[0])):
+        gone = [k for k, row in enumerate(web[1]) if row[0] == part and numbers[k] > 0]
+        found = reached([(web[1][k][1], web[1][k][2]) for k in gone], BEGIN)
+        begun = numbers[len(web[1]) + part] > 0
+        apart.extend([k for k in gone if not begun or web[1][k][1] not in found])
+    return apart
 
 
 def heap_of(web, numbers):

@@ -1,6 +1,7 @@
 """Webs for the tests, and plain ways to find their runs and counts without the program."""
 
 import copy
+import fractions
 import itertools
 import random
 
@@ -69,8 +70,43 @@ MANY_CALLS = (
     [(0, 0, 1, 1), (0, 0, 0, 1), (0, 0, 0, 2), (2, 0, 1, -1), (1, 0, 1, 2)],
 )
 
+# What is read has to be divided: part 1 begins twice for each way by row 0, three times for each by row 2.
+DIVIDED = (
+    [5, 2],
+    [
+        (0, 0, 2, 1),
+        (0, 2, 1, 1),
+        (0, 0, 3, 1),
+        (0, 3, 4, 1),
+        (0, 4, 1, 1),
+        (1, 0, 1, -1),
+    ],
+)
+
+# Calls three deep: what is read is divided by 9, and heaps that are alike at a choice are large.
+FAR_APART = (
+    [4, 4, 4, 3],
+    [
+        (0, 0, 2, 1),
+        (0, 2, 3, 1),
+        (0, 3, 1, 1),
+        (0, 0, 2, 3),
+        (1, 0, 2, 2),
+        (1, 2, 3, 2),
+        (1, 3, 1, 2),
+        (2, 0, 2, 3),
+        (2, 2, 3, 3),
+        (2, 3, 1, 3),
+        (2, 2, 2, 3),
+        (3, 0, 2, -1),
+        (3, 2, 1, -1),
+    ],
+)
+
 SMALL = [LINE, LOOPS, ROUND_APART, CALLED_ROUND, DEEP, MANY_CALLS]
 ALL = SMALL + [NESTED]
+# Webs for plans: of all of these every choice can be gone through.
+CHOSEN_FROM = ALL + [DIVIDED]
 
 
 def line_web(places, rows):
@@ -228,6 +264,25 @@ def drawn_web(seed):
     return (places, rows)
 
 
+def calling_web(seed):
+    """A web of two to four parts drawn by the seed, in which most rows call: heaps that are alike grow large."""
+    draw = random.Random(seed)
+    places = [draw.randint(2, 5) for part in range(draw.randint(2, 4))]
+    rows = []
+    for part, size in enumerate(places):
+        order = [0] + list(range(2, size)) + [1]
+        leads = list(zip(order, order[1:]))
+        for more in range(draw.randint(0, 2)):
+            leads.append((draw.choice([place for place in range(size) if place != 1]), draw.randrange(size)))
+        later = list(range(part + 1, len(places)))
+        for lead in leads:
+            rows.append((part,) + lead + (draw.choice(later + later[:1] * 2 + [-1]) if later else -1,))
+    draw.shuffle(rows)
+    if any(part not in [row[3] for row in rows] for part in range(1, len(places))):
+        return calling_web(seed + 1000003)
+    return (places, rows)
+
+
 def drawn_run(web, draw, most):
     """A run of the web: drawn for about so many rows, then by rows that lead nearer to the end alone."""
     far = [far_from_end(web, part) for part in range(len(web[0]))]
@@ -260,6 +315,73 @@ def far_from_end(web, part):
 
 def drawn_heap(web, draw):
     return [drawn_run(web, draw, draw.randint(0, 12)) for run in range(draw.randint(0, 4))]
+
+
+def plain_rank(lists):
+    """How many of the lists of numbers don't follow from others of them by sums and multiples."""
+    left = [[fractions.Fraction(number) for number in numbers] for numbers in lists]
+    rank = 0
+    for place in range(len(left[0]) if left else 0):
+        first = next((numbers for numbers in left if numbers[place] != 0), None)
+        if first is None:
+            continue
+        rank += 1
+        left = [[a - b * numbers[place] / first[place] for a, b in zip(numbers, first)]
+                for numbers in left if numbers is not first]
+    return rank
+
+
+def plain_least(web):
+    """How many counters it takes: what is free in each part, less what the calls bind."""
+    return len(web[1]) - sum(web[0]) + len(web[0]) + 1
+
+
+def many_counts(web):
+    """Counts of runs, from which by sums and multiples the counts of all heaps follow."""
+    draw = random.Random(5)
+    found = [plain_counts(web, [drawn_run(web, draw, most)]) for most in range(12) for again in range(25)]
+    found = [list(numbers) for numbers in {tuple(numbers) for numbers in found}]
+    if plain_rank(found) != plain_least(web):
+        raise ValueError("too few runs were drawn")
+    return sorted(found)
+
+
+def all_choices(web):
+    rows = range(len(web[1]))
+    return [list(choice) for size in range(len(rows) + 1) for choice in itertools.combinations(rows, size)]
+
+
+def enough_choices(web):
+    """All choices of a web that are enough, found by going through all of them.
+
+    Heaps' counts less one another are, but for a multiple, all that follows from counts of runs; so a choice is
+    enough where nothing is lost when these are only looked at there.
+    """
+    known = many_counts(web)
+    least = plain_least(web)
+    return [choice for choice in all_choices(web)
+            if plain_rank([[numbers[row] for row in choice] for numbers in known]) == least]
+
+
+def no_choices(web):
+    """Things of all kinds that are no choice of the web."""
+    count = len(web[1])
+    return [None, True, False, 0, 1, -1, 10 ** 29, "", "0", "01", 0.5, (), (0,), {}, {0: True}, set(), {0}, object(),
+            [-1], [count], [count + 1], [10 ** 29], [-10 ** 29], [0, 0], [0, count], [-1, 0], [0, -1],
+            [False], [True], [0, True], [None], [0, None], ["0"], [0.0], [[0]], [(0,)], [[]], [()], [{}], [object()],
+            list(range(count)) + [count], list(range(count)) + [0], [count - 1] * 2]
+
+
+def no_guesses(web):
+    """Things of all kinds, but None, that are no guesses of the web."""
+    count = len(web[1])
+    right = [1] * count
+    wrong = [True, False, 0, 1, "", "1" * count, 0.5, (), tuple(right), {}, dict.fromkeys(range(count), 1), set(),
+             object(), [], right[1:], right + [1], right + right, [right]]
+    for other in (-1, -10 ** 29, True, False, None, "1", 1.0, [1], (1,), {}, object()):
+        wrong.append(right[1:] + [other])
+        wrong.append([other] + right[1:])
+    return wrong
 
 
 def parts_of(value):

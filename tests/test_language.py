@@ -115,6 +115,19 @@ class Language(unittest.TestCase):
                 read = [node.id for node in nodes(path, ast.Name)]
                 self.assertEqual([name for name in read if hasattr(builtins, name) and name not in OWN_NAMES], [])
 
+    def test_nothing_is_called_like_an_import_or_a_def_of_its_file(self):
+        for path in FILES:
+            with self.subTest(path.name):
+                body = tree_of(path).body
+                there = [row.name for row in body if isinstance(row, (ast.FunctionDef, ast.ClassDef))]
+                there += [row.targets[0].id for row in body if isinstance(row, ast.Assign)]
+                there += [name.name for name in nodes(path, ast.alias)]
+                self.assertEqual(len(there), len(set(there)))
+                inner = [node.arg for node in nodes(path, ast.arg)]
+                inner += [node.id for row in body if isinstance(row, (ast.FunctionDef, ast.ClassDef))
+                          for node in ast.walk(row) if isinstance(node, ast.Name) and isinstance(node.ctx, ast.Store)]
+                self.assertEqual([name for name in inner if name in there], [])
+
     def test_methods(self):
         free = OWN_METHODS + methods_and_values()
         for path in FILES:
