@@ -1,7 +1,7 @@
 """Heaps and counts: how often the runs of a heap go through each row and begin each part."""
 
 from fewcounters.errors import NoCounts, NoRun
-from fewcounters.webs import BEGIN, END, FIRST_PART, NO_CALL, are_whole, is_run_of, need_web, reached
+from fewcounters.webs import BEGIN, END, FIRST_PART, NO_CALL, are_whole, is_run_of, need_web, reached, rows_leaving
 
 
 def counts(web, heap):
@@ -165,11 +165,8 @@ def round_from_end(web, numbers, part):
 
 def numbers_leaving(web, part):
     """For each of the part's places the rows that lead from it, and at END the part's begin."""
-    leaving = [[] for k in range(web[0][part])]
+    leaving = rows_leaving(web, part)
     leaving[END].append(len(web[1]) + part)
-    for number, row in enumerate(web[1]):
-        if row[0] == part:
-            leaving[row[1]].append(number)
     return leaving
 
 

@@ -96,6 +96,24 @@ def need_web(web):
         raise NoWeb("no web")
 
 
+def is_part(web, part):
+    return is_whole(part) and 0 <= part < len(web[0])
+
+
+def is_row(web, number):
+    # Python counts numbers below 0 from a list's end, so they are turned away ahead of any index.
+    return is_whole(number) and 0 <= number < len(web[1])
+
+
+def rows_leaving(web, part):
+    """For each of the part's places the numbers of the rows that lead from it, rising."""
+    leaving = [[] for place in range(web[0][part])]
+    for number, row in enumerate(web[1]):
+        if row[0] == part:
+            leaving[row[1]].append(number)
+    return leaving
+
+
 def is_run(web, rows):
     """Whether a list of rows' numbers is a run of the web."""
     need_web(web)
@@ -136,8 +154,7 @@ def at_begin(part):
 
 
 def can_go(web, stack, number):
-    # Python counts numbers below 0 from a list's end, so they are turned away ahead of the index.
-    if not stack or not is_whole(number) or not 0 <= number < len(web[1]):
+    if not stack or not is_row(web, number):
         return False
     row = web[1][number]
     return (row[0], row[1]) == stack[-1]

@@ -103,8 +103,64 @@ FAR_APART = (
     ],
 )
 
+# Loose: several rows that lead alike, a row past a place, and rows whose numbers don't rise along the ways.
+FORKS = (
+    [4],
+    [
+        (0, 2, 1, -1),
+        (0, 0, 3, -1),
+        (0, 0, 2, -1),
+        (0, 3, 1, -1),
+        (0, 2, 3, -1),
+        (0, 2, 1, -1),
+        (0, 0, 3, -1),
+    ],
+)
+
+# Part 0 goes round, part 1 is loose, part 2 goes round by a row that leads back to its own place; the rows of
+# the parts stand mixed, and part 2 is called by rows of both others.
+MIXED = (
+    [3, 4, 3],
+    [
+        (1, 0, 2, 2),
+        (0, 2, 0, 1),
+        (2, 0, 2, -1),
+        (1, 2, 3, -1),
+        (0, 0, 2, 2),
+        (1, 2, 3, 2),
+        (2, 2, 2, -1),
+        (1, 3, 1, -1),
+        (0, 2, 1, 1),
+        (2, 2, 1, -1),
+        (1, 0, 1, -1),
+        (0, 2, 1, -1),
+    ],
+)
+
+# What is a cut hangs on the rows' numbers: rounds into one another, to place 0, and to places left for good.
+ROUNDS = (
+    [6],
+    [
+        (0, 5, 2, -1),
+        (0, 0, 3, -1),
+        (0, 0, 2, -1),
+        (0, 2, 4, -1),
+        (0, 3, 2, -1),
+        (0, 4, 3, -1),
+        (0, 4, 0, -1),
+        (0, 2, 5, -1),
+        (0, 4, 1, -1),
+        (0, 5, 4, -1),
+        (0, 2, 2, -1),
+        (0, 3, 4, -1),
+        (0, 0, 0, -1),
+    ],
+)
+
 SMALL = [LINE, LOOPS, ROUND_APART, CALLED_ROUND, DEEP, MANY_CALLS]
 ALL = SMALL + [NESTED]
+# Webs for ways, stretches and chains.
+WOVEN = ALL + [DIVIDED, FAR_APART, FORKS, MIXED, ROUNDS]
 # Webs for plans: of all of these every choice can be gone through.
 CHOSEN_FROM = ALL + [DIVIDED]
 
@@ -311,6 +367,119 @@ def far_from_end(web, part):
         if not new:
             return far
         far.update((place, step) for place in new)
+
+
+def plain_ways(web, part, place=0):
+    """All ways of a loose part from a place to its end, those by lesser rows ahead: each stands at its number."""
+    if place == 1:
+        return [[]]
+    return [[number] + rest for number, row in enumerate(web[1]) if row[:2] == (part, place)
+            for rest in plain_ways(web, part, row[2])]
+
+
+def plain_own_runs(web, part, most, place=0):
+    """All lists of at most so many rows of a part, each leading on from the one ahead, from a place to its end."""
+    if place == 1:
+        yield []
+        return
+    for number, row in enumerate(web[1]):
+        if row[:2] == (part, place) and most > 0:
+            for rest in plain_own_runs(web, part, most - 1, row[2]):
+                yield [number] + rest
+
+
+def own_runs_within(web, run):
+    """(part, own run) of each going through a part within a run, in the order in which they end."""
+    ended = []
+    stack = [(0, 0, [])]
+    for number in run:
+        part, place, own = stack.pop()
+        own.append(number)
+        stack.append((part, web[1][number][2], own))
+        if web[1][number][3] >= 0:
+            stack.append((web[1][number][3], 0, []))
+        while stack and stack[-1][1] == 1:
+            part, place, own = stack.pop()
+            ended.append((part, own))
+    return ended
+
+
+def plain_cuts(web, part):
+    """The cuts of a part, found by going on from place to place, each such going a call within the one ahead."""
+    found = []
+    left = []
+
+    def go_from(way):
+        for number, row in enumerate(web[1]):
+            if row[:2] == (part, way[-1]):
+                if row[2] in way:
+                    found.append(number)
+                elif row[2] not in left:
+                    go_from(way + [row[2]])
+        left.append(way[-1])
+
+    go_from([0])
+    return sorted(found)
+
+
+def plain_chains(web, part):
+    """All chains to a part, those whose last rows are lesser ahead, then by those ahead of the last."""
+    if part == 0:
+        return [[]]
+    return [chain + [number] for number, row in enumerate(web[1]) if row[3] == part
+            for chain in plain_chains(web, row[0])]
+
+
+def loose_web(seed):
+    """A web drawn by the seed whose parts are all loose, several rows often leading alike."""
+    draw = random.Random(seed)
+    places = [draw.randint(2, 7) for part in range(draw.randint(1, 4))]
+    leads = []
+    for part, size in enumerate(places):
+        between = list(range(2, size))
+        draw.shuffle(between)
+        order = [0] + between + [1]
+        leads += [(part, a, b) for a, b in zip(order, order[1:])]
+        for more in range(draw.randint(0, 6)):
+            first, second = sorted(draw.sample(range(size), 2))
+            leads.append((part, order[first], order[second]))
+    draw.shuffle(leads)
+    rows = [lead + (draw.choice(list(range(lead[0] + 1, len(places))) + [-1, -1]),) for lead in leads[:30]]
+    if len(leads) > 30 or any(part not in [row[3] for row in rows] for part in range(1, len(places))):
+        return loose_web(seed + 1000003)
+    return (places, rows)
+
+
+def no_parts(web):
+    """Numbers that no part of the web has."""
+    return [-1, -2, -len(web[0]), len(web[0]), len(web[0]) + 1, 10 ** 29, 10 ** 30 - 1, -10 ** 29]
+
+
+def no_numbers(count):
+    """Numbers that are not among those from 0 to one less than count."""
+    return [-1, -2, -count, count, count + 1, count + 10 ** 9, 10 ** 29, 10 ** 30 - 1, -10 ** 29]
+
+
+def near_lists(web, rows):
+    """Lists and other things near a list of rows' numbers: with one wrong, one more, one less, or in another order."""
+    count = len(web[1])
+    near = [None, True, 0, "", tuple(rows), tuple(rows) + (0,), {}, rows + rows, [rows], [None], list(reversed(rows))]
+    for place in range(len(rows) + 1):
+        near.append(rows[:place])
+        near.append(rows[place:])
+        near.append(rows[:place] + rows[place + 1:])
+        for other in list(range(count)) + [-1, count, 10 ** 29, -10 ** 29, None, "0", (0,), [0]]:
+            near.append(rows[:place] + [other] + rows[place:])
+            near.append(rows[:place] + [other] + rows[place + 1:])
+        near += [rows[:place] + [number - count] + rows[place + 1:] for number in rows[place:place + 1]]
+        # True is 1 and False is 0 to Python, but they are no numbers of rows.
+        near += [rows[:place] + [number == 1] + rows[place + 1:] for number in rows[place:place + 1] if number < 2]
+    return near
+
+
+def is_plain(value):
+    """Whether a value is a list of whole numbers."""
+    return isinstance(value, list) and all(isinstance(inner, int) and not isinstance(inner, bool) for inner in value)
 
 
 def drawn_heap(web, draw):
