@@ -1,7 +1,7 @@
 """Stretches: what a part's own run falls into at its cuts, and the counts of rows from the stretches' numbers."""
 
 from fewcounters.errors import NoRun
-from fewcounters.ways import leads_through, need_part, ways_of, worths
+from fewcounters.ways import leads_through, need_part, ways_of, worths_in
 from fewcounters.webs import BEGIN, END, FIRST_PART, NO_CALL, rows_leaving
 
 
@@ -52,7 +52,7 @@ def stretches(web, part, rows):
     need_part(web, part)
     if not leads_through(web, part, rows):
         raise NoRun("no own run of the part")
-    known = worths(stretch_web(web, part), FIRST_PART)
+    known = worths_in(stretch_web(web, part), FIRST_PART)
     return [sum([known[place] for place in way]) for way in fallen(web, part, rows)]
 
 

@@ -44,6 +44,11 @@ def ways_on(web, part):
 def worths(web, part):
     """For each row how many ways lead to the end by those rows ahead of it that lead from the same place."""
     need_loose(web, part)
+    return worths_in(web, part)
+
+
+def worths_in(web, part):
+    """As worths, for a part that is known to be loose; a stretch web has more rows than a web may have, at times."""
     known = ways_on(web, part)
     told = [0] * len(web[1])
     for numbers in rows_leaving(web, part):
@@ -85,12 +90,13 @@ def leads_through(web, part, rows):
 
 def way_of(web, part, number):
     """The way that has the number."""
+    need_loose(web, part)
     return ways_of(web, part, [number])[0]
 
 
 def ways_of(web, part, numbers):
-    """For each of the numbers the way that has it."""
-    known = worths(web, part)
+    """For each of the numbers the way that has it; as worths_in, for a part that is known to be loose."""
+    known = worths_in(web, part)
     count = ways_on(web, part)[BEGIN]
     if not all([is_whole(number) and 0 <= number < count for number in numbers]):
         raise NoWay("no way's number")

@@ -57,6 +57,35 @@ def plain_stretches(web, part, own):
     return told
 
 
+def plain_number(rows, way):
+    """A way's number in a web of these rows: how many ways go by a lesser row at one of its places."""
+    known = {1: 1}
+
+    def lead_on(place):
+        if place not in known:
+            known[place] = sum(lead_on(row[2]) for row in rows if row[1] == place)
+        return known[place]
+
+    return sum(lead_on(row[2]) for step in way for row in rows[:step] if row[1] == rows[step][1])
+
+
+def wide_webs():
+    """Webs of thirty-one to sixty rows; many of their stretch webs have more than sixty, so are no webs."""
+    found = [([3], [(0, 0, 2, -1), (0, 2, 1, -1)] + [(0, 2, 2, -1)] * count) for count in (29, 30, 31, 57, 58)]
+    found += [([2], [(0, 0, 0, -1)] * 59 + [(0, 0, 1, -1)])]
+    for seed in range(24):
+        draw = random.Random(seed)
+        places, rows = samples.drawn_web(seed)
+        count = draw.randint(31, 60) if seed % 4 == 0 else 60
+        while len(rows) < count:
+            part = draw.randrange(len(places)) if seed % 4 == 0 else 0
+            start = draw.choice([place for place in range(places[part]) if place != 1])
+            to = draw.choice([start, draw.randrange(places[part])])
+            rows.insert(draw.randint(0, len(rows)), (part, start, to, -1))
+        found.append((places, rows))
+    return found
+
+
 def plain_row_counts(web, owns):
     return [sum(own.count(number) for own in owns) for number in range(len(web[1]))]
 
@@ -236,6 +265,25 @@ class Stretches(unittest.TestCase):
         told = stretches(samples.LOOPS, 0, own)
         self.assertEqual(told, [1] + [7] * 1999 + [8] + [4] + [7] * 1996 + [6])
         self.assertEqual(counts_by(samples.LOOPS, 0, told), [1, 3997, 1, 1, 1])
+
+    def test_webs_of_more_than_thirty_rows(self):
+        wide = 0
+        for web, part in parts_of_webs(wide_webs()):
+            self.assertTrue(is_web(web))
+            rows = plain_stretch_rows(web, part)[3]
+            wide += len(rows) > 60
+            draw = random.Random(len(rows))
+            for run in [samples.drawn_run(web, draw, most) for most in (0, 3, 9, 30)]:
+                for own in [own for inner, own in samples.own_runs_within(web, run) if inner == part]:
+                    told = stretches(web, part, own)
+                    self.assertEqual(told, [plain_number(rows, way) for way in plain_stretches(web, part, own)])
+                    draw.shuffle(told)
+                    self.assertEqual(counts_by(web, part, told), plain_row_counts(web, [own]))
+            with self.assertRaises(NoRun):
+                stretches(web, part, [len(web[1])])
+            with self.assertRaises(NoWay):
+                counts_by(web, part, [10 ** 70])
+        self.assertGreaterEqual(wide, 10)
 
     def test_what_is_no_own_run(self):
         for web, part in parts_of_webs(samples.WOVEN):
