@@ -52,6 +52,27 @@ def methods_and_values():
     return found
 
 
+def walks_on_the_spot(node, parent):
+    """Whether a zip, range or its like stands where it is walked at once."""
+    if isinstance(parent, (ast.For, ast.comprehension)):
+        return parent.iter is node
+    if not isinstance(parent, ast.Call) or not parent.args or parent.args[0] is not node:
+        return False
+    if isinstance(parent.func, ast.Attribute):
+        return parent.func.attr == "join" and isinstance(parent.func.value, ast.Constant)
+    if parent.func.id in ("min", "max"):
+        return len(parent.args) == 1
+    return parent.func.id in ("list", "tuple", "dict", "sorted", "sum", "any", "all", "enumerate", "zip")
+
+
+def is_walker(node):
+    if not isinstance(node, ast.Call):
+        return False
+    if isinstance(node.func, ast.Attribute):
+        return node.func.attr in ("items", "keys", "values")
+    return isinstance(node.func, ast.Name) and node.func.id in ("zip", "enumerate", "reversed", "range")
+
+
 class Language(unittest.TestCase):
     def test_files(self):
         self.assertIn(PACKAGE / "__init__.py", FILES)
@@ -134,6 +155,32 @@ class Language(unittest.TestCase):
             with self.subTest(path.name):
                 used = [node.attr for node in nodes(path, ast.Attribute)]
                 self.assertEqual([name for name in used if name not in free], [])
+
+    def test_methods_are_no_values(self):
+        methods = []
+        values = []
+        for path in FILES:
+            for node in nodes(path, ast.ClassDef):
+                methods += [inner.name for inner in node.body if isinstance(inner, ast.FunctionDef)]
+            values += [node.attr for node in nodes(path, ast.Attribute) if isinstance(node.ctx, ast.Store)]
+        self.assertEqual(sorted(set(methods) & set(values)), [])
+        taken = [name for kind in (str, int, list, dict, set, bytes, tuple) for name in vars(kind)]
+        self.assertEqual([name for name in values if name in taken], [])
+
+    def test_walked_on_the_spot(self):
+        for path in FILES:
+            with self.subTest(path.name):
+                for parent in nodes(path, ast.AST):
+                    for node in ast.iter_child_nodes(parent):
+                        if is_walker(node):
+                            self.assertTrue(walks_on_the_spot(node, parent), getattr(node, "lineno", 0))
+
+    def test_no_files_draw_from_one_another(self):
+        left = {path.stem: {node.module.split(".")[1] for node in nodes(path, ast.ImportFrom)} for path in FILES}
+        while left:
+            free = [name for name in left if not left[name] & set(left)]
+            self.assertNotEqual(free, [], left)
+            left = {name: drawn for name, drawn in left.items() if name not in free}
 
     def test_is_stands_beside_none_and_truths_alone(self):
         for path in FILES:
