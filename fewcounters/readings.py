@@ -25,7 +25,11 @@ def stopped_at(stops, part, place):
 
 def read_back(web, plan, marks, stops):
     """The counts that follow, by the plan's readings, from the chosen rows' marks and the stops."""
-    at_stops = stopped(web, stops)
+    return read_from(web, plan, marks, stopped(web, stops))
+
+
+def read_from(web, plan, marks, at_stops):
+    """As read_back, from what stopped tells of the stops, for a web that was looked at already."""
     choice = plan[0]
     if not is_list_of(marks, len(choice)) or not all([mark >= 0 for mark in marks]):
         raise NoMarks("no list of a number from 0 on for each chosen row")

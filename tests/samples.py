@@ -422,6 +422,35 @@ def plain_cuts(web, part):
     return sorted(found)
 
 
+def plain_stretch_rows(web, part):
+    """(kept, starts, ends, rows): by each row not cut, each cut's row from 0, each cut's row to 1, its number."""
+    found = plain_cuts(web, part)
+    kept, starts, ends, rows = {}, {}, {}, []
+    for number, row in enumerate(web[1]):
+        if row[0] == part and number not in found:
+            kept[number] = len(rows)
+            rows.append((0, row[1], row[2], -1))
+    for number in found:
+        if web[1][number][2] != 0:
+            starts[number] = len(rows)
+            rows.append((0, 0, web[1][number][2], -1))
+        ends[number] = len(rows)
+        rows.append((0, web[1][number][1], 1, -1))
+    return kept, starts, ends, rows
+
+
+def plain_number(rows, way):
+    """A way's number in a web of these rows: how many ways go by a lesser row at one of its places."""
+    known = {1: 1}
+
+    def lead_on(place):
+        if place not in known:
+            known[place] = sum(lead_on(row[2]) for row in rows if row[1] == place)
+        return known[place]
+
+    return sum(lead_on(row[2]) for step in way for row in rows[:step] if row[1] == rows[step][1])
+
+
 def plain_chains(web, part):
     """All chains to a part, those whose last rows are lesser ahead, then by those ahead of the last."""
     if part == 0:

@@ -28,26 +28,9 @@ def drawn_webs(count):
     return found + [samples.calling_web(seed) for seed in range(count // 3)]
 
 
-def plain_stretch_rows(web, part):
-    """(kept, starts, ends, rows): by each row not cut, each cut's row from 0, each cut's row to 1, its number."""
-    found = samples.plain_cuts(web, part)
-    kept, starts, ends, rows = {}, {}, {}, []
-    for number, row in enumerate(web[1]):
-        if row[0] == part and number not in found:
-            kept[number] = len(rows)
-            rows.append((0, row[1], row[2], -1))
-    for number in found:
-        if web[1][number][2] != 0:
-            starts[number] = len(rows)
-            rows.append((0, 0, web[1][number][2], -1))
-        ends[number] = len(rows)
-        rows.append((0, web[1][number][1], 1, -1))
-    return kept, starts, ends, rows
-
-
 def plain_stretches(web, part, own):
     """The stretches of an own run as ways of the stretch web, split at the cuts."""
-    kept, starts, ends, rows = plain_stretch_rows(web, part)
+    kept, starts, ends, rows = samples.plain_stretch_rows(web, part)
     places = [place for place, number in enumerate(own) if number in ends]
     told = []
     for first, last in zip([None] + places, places + [None]):
@@ -55,18 +38,6 @@ def plain_stretches(web, part, own):
         way += [kept[number] for number in own[0 if first is None else first + 1:last]]
         told.append(way + ([ends[own[last]]] if last is not None else []))
     return told
-
-
-def plain_number(rows, way):
-    """A way's number in a web of these rows: how many ways go by a lesser row at one of its places."""
-    known = {1: 1}
-
-    def lead_on(place):
-        if place not in known:
-            known[place] = sum(lead_on(row[2]) for row in rows if row[1] == place)
-        return known[place]
-
-    return sum(lead_on(row[2]) for step in way for row in rows[:step] if row[1] == rows[step][1])
 
 
 def wide_webs():
@@ -195,7 +166,7 @@ class StretchWeb(unittest.TestCase):
     def test_rows_in_the_order_told(self):
         for web, part in parts_of_webs(samples.WOVEN + drawn_webs(150)):
             told = stretch_web(web, part)
-            self.assertEqual(told, ([web[0][part]], plain_stretch_rows(web, part)[3]))
+            self.assertEqual(told, ([web[0][part]], samples.plain_stretch_rows(web, part)[3]))
             self.assertTrue(is_web(told))
             self.assertIs(is_loose(told, 0), True)
             # What is loose falls into nothing more.
@@ -270,13 +241,13 @@ class Stretches(unittest.TestCase):
         wide = 0
         for web, part in parts_of_webs(wide_webs()):
             self.assertTrue(is_web(web))
-            rows = plain_stretch_rows(web, part)[3]
+            rows = samples.plain_stretch_rows(web, part)[3]
             wide += len(rows) > 60
             draw = random.Random(len(rows))
             for run in [samples.drawn_run(web, draw, most) for most in (0, 3, 9, 30)]:
                 for own in [own for inner, own in samples.own_runs_within(web, run) if inner == part]:
                     told = stretches(web, part, own)
-                    self.assertEqual(told, [plain_number(rows, way) for way in plain_stretches(web, part, own)])
+                    self.assertEqual(told, [samples.plain_number(rows, way) for way in plain_stretches(web, part, own)])
                     draw.shuffle(told)
                     self.assertEqual(counts_by(web, part, told), plain_row_counts(web, [own]))
             with self.assertRaises(NoRun):
@@ -355,7 +326,7 @@ class CountsBy(unittest.TestCase):
 
     def test_what_is_no_number(self):
         for web, part in parts_of_webs(samples.WOVEN):
-            count = len(samples.plain_ways(([web[0][part]], plain_stretch_rows(web, part)[3]), 0))
+            count = len(samples.plain_ways(([web[0][part]], samples.plain_stretch_rows(web, part)[3]), 0))
             self.assertEqual(len(counts_by(web, part, [0, count - 1])), len(web[1]))
             for number in samples.no_numbers(count) + [True, False, None, "0", 0.0, [0]]:
                 for numbers in ([number], [0, number], [number, count - 1], [0] * 20 + [number] + [0] * 20):
